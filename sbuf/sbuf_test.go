@@ -64,6 +64,7 @@ func TestNewCheckRoomOverSame(t *testing.T) {
 		{func(s *State) { s.Pieces[1].Fin, s.Done, s.Sent = false, true, false }, api.ErrState},
 		{func(s *State) { s.Pieces[0].Fin = true; s.Pieces[1].Fin = false }, api.ErrState},
 		{func(s *State) { s.Again = true }, api.ErrState},
+		{func(s *State) { s.Pieces = []Piece{{22, 22, 1, true}} }, api.ErrState}, // it has no place, so none of Lost
 		{func(s *State) { s.Data = text(21); s.Pieces[1].Fin, s.Again = false, true }, api.ErrState},
 	} {
 		st := good()
