@@ -92,3 +92,10 @@ func TestMayStillBe(t *testing.T) {
 		}
 	}
 }
+
+// P10.2: one byte counts.
+func TestAckedOne(t *testing.T) {
+	if x := Acked(New(), 1); x != (State{97, 1024, 0}) {
+		t.Error(x)
+	}
+}

@@ -160,3 +160,20 @@ func TestPlacesAreGivenAgain(t *testing.T) {
 		}
 	}
 }
+
+// P18.5: no call changes what it is given, nor its list's spare room.
+func TestNothingIsChanged(t *testing.T) {
+	spare := make([]Cell, 0, 8)
+	st := State{append(spare, Cell{true, 5, 0}, Cell{true, 6, 0}), -1, 2}
+	x, _, _ := Take(st, 9)
+	x.Cells[0].Value = 77
+	y, _ := Give(st, 0)
+	y.Cells[1].Value = 77
+	z, _ := Set(st, 0, 9)
+	z.Cells[1].Value = 77
+	x, _ = Give(st, 9)
+	x.Cells[0].Value = 77
+	if !Same(st, State{[]Cell{{true, 5, 0}, {true, 6, 0}}, -1, 2}) || spare[:3][2] != (Cell{}) {
+		t.Error(st, spare[:3])
+	}
+}

@@ -168,3 +168,27 @@ func TestTheFold(t *testing.T) {
 		}
 	}
 }
+
+// P34.1, P34.2: the greatest numbers; no call changes what it is given.
+func TestNothingIsChanged(t *testing.T) {
+	if e := Check(State{Room: 1, Nodes: []ptree.Node{node(api.MaxID, 0, 256, false)}}); e != api.OK {
+		t.Error(e)
+	}
+	st := good()
+	for i, op := range []Op{{Kind: Close, ID: 1}, {Kind: Remove, ID: 1}, {Insert, 2, 0, 1, true}, {Move, 9, 0, 1, true}, {Kind: 9}} {
+		x, _ := Do(st, op)
+		y, _ := Run(st, []Op{op})
+		z, _ := Run(st, nil)
+		for _, x := range []State{x, y, z} {
+			for j := range x.Nodes {
+				x.Nodes[j].Weight = 77
+			}
+			for j := range x.Ended {
+				x.Ended[j] = 77
+			}
+		}
+		if !Same(st, good()) {
+			t.Error(i, st)
+		}
+	}
+}

@@ -196,3 +196,12 @@ func TestPutIsGot(t *testing.T) {
 		}
 	}
 }
+
+// P15.3: a payload may be just as long as it may be.
+func TestGetLongest(t *testing.T) {
+	f := Frame{Kind: Settings, Pairs: pair(big, big, big, big, big, big, big, big)}
+	s, _ := Put(f)
+	if g, n, e := Get(s); n != 68 || e != api.OK || !Same(f, g) {
+		t.Error(n, e)
+	}
+}

@@ -118,3 +118,10 @@ func TestOrderAndBetween(t *testing.T) {
 		}
 	}
 }
+
+// P27.1: the kinds are as the chapter lists them.
+func TestNumbers(t *testing.T) {
+	if Nan != 0 || MinusInf != 1 || Minus != 2 || MinusZero != 3 || Zero != 4 || Plus != 5 || Inf != 6 {
+		t.Error("the numbers")
+	}
+}

@@ -170,3 +170,24 @@ func TestPlainSet(t *testing.T) {
 		}
 	}
 }
+
+// P6.1, P6.4: the edges of what Check refuses.
+func TestRefusedEdges(t *testing.T) {
+	for i, x := range []struct {
+		s    Set
+		want api.Errno
+	}{
+		{Set{{api.MaxVar + 1, 5}}, api.ErrRange}, {Set{{api.MaxVar, api.MaxVar}}, api.ErrForm}, {Set{{0, 0}}, api.ErrForm}, {Set{{3, 0}}, api.ErrForm}, {Set{{3, -1}}, api.ErrRange}, {Set{{0, 1}}, api.OK},
+	} {
+		if Check(x.s) != x.want {
+			t.Error(i, Check(x.s))
+		}
+	}
+	bad, fine := Set{{4, 6}, {1, 3}}, Set{{0, 9}}
+	if len(Meet(bad, fine)) != 0 || len(Meet(fine, bad)) != 0 || len(Gaps(bad, Ival{0, 9})) != 0 {
+		t.Error("a set that may not be")
+	}
+	if m := Meet(Set{{0, 3}, {5, 9}}, Set{{2, 6}, {8, 20}}); !Same(m, Set{{2, 3}, {5, 6}, {8, 9}}) {
+		t.Error(m)
+	}
+}

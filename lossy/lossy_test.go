@@ -165,3 +165,33 @@ func TestStaysAsItWas(t *testing.T) {
 		}
 	}
 }
+
+// P31.3, P31.5: nothing may be flipped; no call changes what it is given, nor its list's spare room.
+func TestNothingIsChanged(t *testing.T) {
+	if st, ok := Flip(three(), 0, 0, 0); !ok || !Same(st, three()) {
+		t.Error(st)
+	}
+	spare := make([]Packet, 0, 8)
+	st := three()
+	st.L = append(spare, st.L...)
+	calls := []func() State{
+		func() State { x, _ := Send(st, Packet{}); return x },
+		func() State { x, _ := Send(st, Packet{Path: 9}); return x },
+		func() State { x, _, _ := Take(st, 0, false); return x },
+		func() State { x, _, _ := Take(st, 0, true); return x },
+		func() State { x, _ := Drop(st, 1); return x },
+		func() State { x, _ := Drop(st, 9); return x },
+		func() State { x, _ := Flip(st, 0, 0, 1); return x },
+		func() State { x, _ := Cut(st, 2); return x },
+		func() State { x, _ := All(st, 2, 0); return x },
+	}
+	for i, call := range calls {
+		x := call()
+		for j := range x.L {
+			x.L[j].Data = "77"
+		}
+		if !Same(st, three()) || spare[:4][3] != (Packet{}) {
+			t.Error(i, st)
+		}
+	}
+}

@@ -225,3 +225,45 @@ func TestBoundStaysSo(t *testing.T) {
 		}
 	}
 }
+
+// P28.3: nothing may be noted; ticks are halved, too.
+func TestNoteEdges(t *testing.T) {
+	if x := Note(good(), 1, 0, 5); x.Lines[1] != (Line{true, false, 20, 15}) {
+		t.Error(x)
+	}
+	st := good()
+	st.Lines[1].Ticks = 1 << 30
+	if x := Note(st, 1, 0, 0); x.Lines[1].Ticks != 1<<30 {
+		t.Error(x.Lines[1])
+	}
+	if x := Note(st, 1, 0, 1); x.Lines[1] != (Line{true, false, 10, 1 << 29}) {
+		t.Error(x.Lines[1])
+	}
+}
+
+// P28.5: no call changes what it is given, nor its list's spare room.
+func TestNothingIsChanged(t *testing.T) {
+	spare := make([]Bind, 0, 8)
+	st := good()
+	st.Binds = append(spare, st.Binds...)
+	calls := []func() State{
+		func() State { x, _ := Rise(st, 0); return x },
+		func() State { x, _, _ := Fall(st, 1); return x },
+		func() State { x, _, _ := Fall(st, 2); return x },
+		func() State { return Note(st, 1, 1, 1) },
+		func() State { x, _ := Choose(st, 3); return x },
+		func() State { x, _ := Choose(st, 0); return x },
+		func() State { x, _ := Pin(st); return x },
+		func() State { return Free(st, 5) },
+		func() State { return Free(st, 6) },
+	}
+	for i, call := range calls {
+		x := call()
+		for j := range x.Binds {
+			x.Binds[j].Path = 77
+		}
+		if !Same(st, good()) || spare[:4][3] != (Bind{}) {
+			t.Error(i, st)
+		}
+	}
+}

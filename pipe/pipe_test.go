@@ -336,3 +336,42 @@ func TestAllComes(t *testing.T) {
 		}
 	}
 }
+
+// P14.3: edges of what is acknowledged.
+func TestOnAckEdges(t *testing.T) {
+	a, _ := up()
+	if Quiet != 16 || Death != 200 || !Same(Tick(a, api.MaxTick), Kill(Tick(a, api.MaxTick))) {
+		t.Error("the ticks")
+	}
+	hers := a.Shake.Hers + 1
+	ack := func(st State, number uint32, window int, l ...segment.Block) State {
+		return On(st, segment.Segment{Flags: segment.Ack, Seq: hers, Ack: number, Window: window, Sacks: l})
+	}
+	a, _ = Write(a, text(300))
+	a, _, _ = Out(a)
+	a, _, _ = Out(a)
+	if x := ack(a, 102, 9000); x.Limit != 9096 || x.Send.Base != 96 || !x.Rtt.Known || x.Rtt.Smooth != 0 {
+		t.Error(x) // all of it, at once
+	}
+	if x := ack(a, 6, 0, segment.Block{From: 6, To: 20}); x.Send.Base != 14 {
+		t.Error(x.Send)
+	}
+	b := ack(a, 54, 0)
+	if x := ack(b, 6, 60000); x.Limit != b.Limit || x.Send.Base != 48 {
+		t.Error("below Base")
+	}
+	if x := ack(b, 60, 0, segment.Block{From: 55, To: 70}); x.Send.Base != 54 || len(x.Send.Came) != 0 {
+		t.Error("a block below what came", x.Send)
+	}
+	// What was sent later is waited for from then on.
+	c, _ := up()
+	c = Tick(c, 10)
+	c, _ = Write(c, "late")
+	c, _, _ = Out(c)
+	if x := Tick(c, 25); sendq.Flight(x.Send) != 4 {
+		t.Error("too soon")
+	}
+	if x := Tick(c, 26); sendq.Flight(x.Send) != 0 {
+		t.Error("too late")
+	}
+}

@@ -223,3 +223,19 @@ func TestATreeAllAlong(t *testing.T) {
 		}
 	}
 }
+
+// P19.2, P19.5: edges.
+func TestEdges(t *testing.T) {
+	p := tree(9, 2)
+	if e := p.Insert(1, api.MaxID, 256, false); e != api.OK || !is(p, 1, 0, 16) {
+		t.Error(e)
+	}
+	for _, id := range []int{9, 5, 7, 3} {
+		p.Insert(id, 1, 16, false)
+	}
+	p.Remove(5)
+	p.Insert(11, 1, 16, false) // in a place that was given back
+	if !slices.Equal(p.Kids(1), []int{3, 7, 9, 11}) {
+		t.Error(p.Kids(1))
+	}
+}

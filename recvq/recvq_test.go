@@ -168,3 +168,27 @@ func TestAnyOrder(t *testing.T) {
 		}
 	}
 }
+
+// P12.2, P12.5: a place below 0 is none; no call changes what it is given, nor its lists' spare room.
+func TestNothingIsChanged(t *testing.T) {
+	if st, n := Put(New(), -1, "abc"); n != 0 || !Same(st, New()) {
+		t.Error(st, n)
+	}
+	if _, n := Put(New(), 0, strings.Repeat("x", 5000)); n != 4096 {
+		t.Error(n)
+	}
+	spare := make([]Part, 0, 8)
+	st := State{10, "abc", append(spare, Part{12, "x"}, Part{20, "y"})}
+	x, _ := Put(st, 14, "z")
+	x.Parts[0].At = 77
+	x, _ = Put(st, 13, "z")
+	x.Parts[0].At = 77
+	x, _ = Put(st, 10, "z")
+	x, _ = Read(st, 1)
+	x.Parts[0].At = 77
+	x, _ = Put(st, 0, "z")
+	x.Parts[0].At = 77
+	if !Same(st, State{10, "abc", []Part{{12, "x"}, {20, "y"}}}) || spare[:3][2] != (Part{}) {
+		t.Error(st, spare[:3])
+	}
+}

@@ -131,3 +131,10 @@ func TestMayStillBe(t *testing.T) {
 		}
 	}
 }
+
+// P8.2: nothing may be the smooth time.
+func TestSampleOfNothing(t *testing.T) {
+	if x := Sample(State{0, 0, true, 3}, 0); x != (State{0, 0, true, 0}) {
+		t.Error(x)
+	}
+}

@@ -70,3 +70,10 @@ func TestWorseWorst(t *testing.T) {
 		}
 	}
 }
+
+// P17.1: classes and scopes are as the chapter lists them.
+func TestNumbers(t *testing.T) {
+	if Control != 0 || Idle != 1 || Open != 2 || Ended != 3 || Gone != 4 || Cut != 5 || Wrong != 6 || Fine != 0 || Ignored != 1 || Stream != 2 || Session != 3 {
+		t.Error("the numbers")
+	}
+}

@@ -277,3 +277,64 @@ func TestAllIsSent(t *testing.T) {
 		}
 	}
 }
+
+// P23.1, P23.3, P23.4: edges.
+func TestEdges(t *testing.T) {
+	top := api.MaxOffset - api.MaxPipe
+	if Check(State{Base: top + 1, Next: top + 1}) != api.ErrRange || Check(State{Data: text(4096)}) != api.OK || Check(State{Base: top, Next: top}) != api.OK {
+		t.Error("Check")
+	}
+	shut := Close(New())
+	if x, _, _, ok := Pick(shut, 0, 0, 9); ok || !Same(x, shut) {
+		t.Error("most is below 1")
+	}
+	gone, p, s, ok := Pick(shut, 0, 1, 0)
+	if p != (Piece{0, 0, 0, true}) || s != "" || !ok {
+		t.Error(p, s, ok)
+	}
+	if x := Came(gone, 0, true); !x.Done || !Over(x) || len(x.Pieces) != 0 {
+		t.Error(x)
+	}
+	lost := State{Data: "abc", Next: 3, Lost: set(0, 3)}
+	if x := Came(lost, 2, false); !ivals.Same(x.Lost, set(2, 3)) || Check(x) != api.OK {
+		t.Error(x)
+	}
+	for i, f := range []func(*State){
+		func(s *State) { s.Base++ }, func(s *State) { s.Data += "x" }, func(s *State) { s.Next++ }, func(s *State) { s.Pieces = nil }, func(s *State) { s.Lost = nil },
+		func(s *State) { s.Closed = false }, func(s *State) { s.Sent = false }, func(s *State) { s.Again = true }, func(s *State) { s.Done = true },
+	} {
+		x := good()
+		if f(&x); Same(x, good()) {
+			t.Error(i)
+		}
+	}
+}
+
+// P23.6: no call changes what it is given, nor its lists' spare room.
+func TestNothingIsChanged(t *testing.T) {
+	spare, room := make([]Piece, 0, 8), make(ivals.Set, 0, 8)
+	st := good()
+	st.Pieces, st.Lost = append(spare, st.Pieces...), append(room, st.Lost...)
+	calls := []func() State{
+		func() State { x, _ := Write(st, "a"); return x },
+		func() State { return Close(st) },
+		func() State { x, _, _, _ := Pick(st, 0, 2, 9); return x },
+		func() State { x, _, _, _ := Pick(st, 9, 2, 9); return x },
+		func() State { return Came(st, 12, false) },
+		func() State { return Came(st, -1, false) },
+		func() State { return Dead(st, 0) },
+		func() State { return Dead(st, 3) },
+	}
+	for i, call := range calls {
+		x := call()
+		for j := range x.Pieces {
+			x.Pieces[j].Path = 77
+		}
+		for j := range x.Lost {
+			x.Lost[j].To = 77
+		}
+		if !Same(st, good()) || spare[:3][2] != (Piece{}) || room[:2][1] != (ivals.Ival{}) {
+			t.Error(i, st)
+		}
+	}
+}

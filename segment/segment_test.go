@@ -142,3 +142,10 @@ func TestPutIsGot(t *testing.T) {
 		}
 	}
 }
+
+// P7.1: the flags are as the chapter lists them.
+func TestFlags(t *testing.T) {
+	if Syn != 1 || Ack != 2 || Fin != 4 || Reset != 8 || Probe != 16 {
+		t.Error(Syn, Ack, Fin, Reset, Probe)
+	}
+}

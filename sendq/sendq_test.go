@@ -256,3 +256,72 @@ func TestAllIsSent(t *testing.T) {
 		}
 	}
 }
+
+// P11.1, P11.3, P11.4, P11.5: edges.
+func TestEdges(t *testing.T) {
+	top := api.MaxOffset - api.MaxPipe
+	if Check(State{Base: top + 1, Next: top + 1}) != api.ErrRange || Check(State{Data: text(4096)}) != api.OK || Check(State{Data: text(4097)}) != api.ErrLong {
+		t.Error("Check")
+	}
+	st, _ := Write(New(), text(100))
+	st, _, _ = Pick(st, 5, 999, 999)
+	for _, n := range []int{math.MinInt, -1, 47, 48} {
+		if x, _, s := Pick(st, 6, 999, n); s != "" || !Same(x, st) {
+			t.Error(n)
+		}
+		if x, _, s := Pick(st, 6, n, 999); s != "" || !Same(x, st) {
+			t.Error(n)
+		}
+	}
+	one := State{Data: text(49), Next: 49, Flight: []Chunk{{0, 48, 0, 1, true}, {48, 49, 0, 1, false}}}
+	if _, _, s := Pick(one, 0, 48, 0); s != "" {
+		t.Error("one byte is under way")
+	}
+	if _, _, s := Pick(one, 0, 49, 0); len(s) != 48 {
+		t.Error("both fit")
+	}
+	st.Base, st.Data, st.Flight[0].From = 1, st.Data[1:], 1
+	for _, cum := range []int{0, 49} {
+		if x, r := Ack(st, cum, nil, 9); !Same(x, st) || r != (Report{0, -1, false}) {
+			t.Error(cum, r)
+		}
+	}
+	if x, r := Ack(st, 1, set(40, 48), 9); r.Acked != 8 || !ivals.Same(x.Came, set(40, 48)) {
+		t.Error(x, r)
+	}
+	if _, r := Ack(st, 48, nil, 0); r.Sample != -1 {
+		t.Error(r)
+	}
+	two := State{Data: text(90), Next: 90, Flight: []Chunk{{0, 40, 3, 1, false}, {40, 80, 7, 1, false}, {80, 90, 5, 1, false}}}
+	if at, ok := Oldest(two); at != 3 || !ok {
+		t.Error(at)
+	}
+	for i, f := range []func(*State){func(s *State) { s.Base++ }, func(s *State) { s.Data += "x" }, func(s *State) { s.Next++ }, func(s *State) { s.Flight = nil }, func(s *State) { s.Came = set(3, 4) }} {
+		x := two
+		if f(&x); Same(x, two) {
+			t.Error(i)
+		}
+	}
+}
+
+// P11.6: no call changes what it is given, nor its lists' spare room.
+func TestNothingIsChanged(t *testing.T) {
+	spare := make([]Chunk, 0, 8)
+	came := make(ivals.Set, 0, 8)
+	st := State{Data: text(200), Next: 144, Flight: append(spare, Chunk{0, 48, 1, 1, true}, Chunk{48, 96, 1, 1, false}), Came: append(came, set(100, 110)...)}
+	was := kept(st)
+	x, _, _ := Pick(st, 9, 999, 999)
+	x.Flight[0].Sent = 77
+	x, _ = Ack(st, 10, set(60, 70), 9)
+	x.Flight[0].Sent = 77
+	x, _ = Expire(st)
+	x.Flight[0].Sent = 77
+	x, _ = Write(st, "a")
+	x.Flight[0].Sent, x.Came[0].To = 77, 77
+	st.Flight = st.Flight[:1]
+	x, _ = Ack(st, 10, nil, 9)
+	x, _, _ = Pick(x, 9, 999, 999)
+	if !Same(State{st.Base, st.Data, st.Next, st.Flight[:2], st.Came}, was) || spare[:3][2] != (Chunk{}) || came[:2][1] != (ivals.Ival{}) {
+		t.Error(st)
+	}
+}

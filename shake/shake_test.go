@@ -85,6 +85,7 @@ func TestOn(t *testing.T) {
 		{Asked, top, 0, seg(syn|ack, 70, 0), Up, 70},
 		{Asked, 5, 0, seg(syn|ack, 70, 7), Asked, 0},
 		{Asked, 5, 0, seg(syn, 70, 0), Heard, 70},
+		{Asked, top, 0, seg(syn, 70, 0), Heard, 70}, // the number behind Mine is 0, but nothing is acknowledged
 		{Asked, 5, 0, seg(ack, 70, 6), Asked, 0},
 		{Asked, 5, 0, seg(reset, 70, 0), Dead, 0},
 		{Heard, 5, 70, seg(ack, 71, 6), Up, 70},

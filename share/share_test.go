@@ -205,3 +205,10 @@ func TestFairness(t *testing.T) {
 		}
 	}
 }
+
+// P20.5: the least weights.
+func TestNearLeast(t *testing.T) {
+	if !Near(Member{1, 1, 5}, Member{3, 1, 6}, [2]int{0, 0}, 1) || Near(Member{1, 1, 5}, Member{3, 1, 8}, [2]int{0, 0}, 1) {
+		t.Error("weights of one")
+	}
+}

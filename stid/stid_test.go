@@ -264,3 +264,63 @@ func TestMayStillBe(t *testing.T) {
 		}
 	}
 }
+
+// P22.1, P22.3, P22.4, P22.5: edges.
+func TestEdges(t *testing.T) {
+	even, _ := New(false, 8, 8)
+	even.Next = api.MaxID + 2
+	if Check(even) != api.OK {
+		t.Error("all even numbers were opened")
+	}
+	if st, v := Begin(even, 1); v.Scope != rules.Fine || !slices.Equal(st.Live, []int{1}) {
+		t.Error(v)
+	}
+	if even.Next++; Check(even) != api.ErrRange {
+		t.Error("an odd number is not its own")
+	}
+	full := good()
+	full.Next, full.Live = 101, nil
+	for i := range 16 {
+		full.Live = append(full.Live, 2*i+5)
+	}
+	if Check(full) != api.OK {
+		t.Error("sixteen may be")
+	}
+	if st := End(good(), 1, false); !slices.Equal(st.Live, []int{2, 7}) {
+		t.Error(st)
+	}
+	gone := good()
+	gone.Heard = 3
+	if st, lost, ok := Away(gone, 3); !ok || st.Heard != 3 || !slices.Equal(lost, []int{7}) {
+		t.Error(st, lost, ok)
+	}
+}
+
+// P22.6: no call changes what it is given, nor its lists' spare room.
+func TestNothingIsChanged(t *testing.T) {
+	live, cut := append(make([]int, 0, 16), 1, 2, 7), append(make([]int, 0, 16), 4, 3)
+	st := good()
+	st.Live, st.Cut = live, cut
+	calls := []func() State{
+		func() State { x, _, _ := Open(st); return x },
+		func() State { x, _ := Begin(st, 10); return x },
+		func() State { x := st; x.Hers = 0; x, _ = Begin(x, 10); return x },
+		func() State { return End(st, 2, true) },
+		func() State { return End(st, 99, true) },
+		func() State { x, _, _ := Away(st, 1); return x },
+		func() State { x, _, _ := Away(st, -1); return x },
+		func() State { x, _ := Shut(st); return x },
+	}
+	for i, call := range calls {
+		x := call()
+		for j := range x.Live {
+			x.Live[j] = 77
+		}
+		for j := range x.Cut {
+			x.Cut[j] = 77
+		}
+		if !Same(st, good()) || live[:4][3] != 0 || cut[:3][2] != 0 {
+			t.Error(i, st)
+		}
+	}
+}

@@ -294,3 +294,19 @@ func TestTwoEnds(t *testing.T) {
 		}
 	}
 }
+
+// P25.1: the least number; two streams are one only in all fields.
+func TestLeastAndSame(t *testing.T) {
+	if st, e := New(0, 1, 1); e != api.OK || Check(st) != api.OK {
+		t.Error(e)
+	}
+	for i, f := range []func(*State){
+		func(s *State) { s.ID++ }, func(s *State) { s.Send.Next++ }, func(s *State) { s.Recv.End = 9 }, func(s *State) { s.Out.Used++ }, func(s *State) { s.In.Used++ },
+		func(s *State) { s.Mine = 0 }, func(s *State) { s.Hers = 0 },
+	} {
+		x := busy()
+		if f(&x); Same(x, busy()) {
+			t.Error(i)
+		}
+	}
+}

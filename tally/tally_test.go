@@ -146,3 +146,14 @@ func TestOrderIsNothing(t *testing.T) {
 		t.Error(a.List(), b.List(), c.List())
 	}
 }
+
+// P36.3: the most there is stays so, however often more is added.
+func TestMostStays(t *testing.T) {
+	x := New()
+	for range 9 {
+		x.Add("read", math.MaxInt)
+	}
+	if x.Get("read") != 1<<62 {
+		t.Error(x.Get("read"))
+	}
+}

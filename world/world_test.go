@@ -144,7 +144,16 @@ func TestRunFair(t *testing.T) {
 	if l := w.Accounts(); !slices.Equal(l, want) {
 		t.Error(l)
 	}
-	if w.Fair(0, nil) != 0 || w.Fair(-5, nil) != 0 || w.Now() != 12 || w.Fair(5000, nil) != 2000 || w.Now() != 2012 {
+	w.Run([]Step{{Kind: Close, ID: 1}, {Kind: Open, Side: 1, N: 16}})
+	w.Fair(5, []int{3, 2})
+	want = []Account{{0, 1, "hello", "", false}, {0, 3, "quiet", "", false}, {1, 1, "", "hello", true}}
+	if l := w.Accounts(); !slices.Equal(l, want) {
+		t.Error(l)
+	}
+	if a := made().Do(Step{Kind: Tick, N: 1000}); a.N != 1000 || a.E != api.OK {
+		t.Error(a)
+	}
+	if w.Fair(0, nil) != 0 || w.Fair(-5, nil) != 0 || w.Now() != 17 || w.Fair(5000, nil) != 2000 || w.Now() != 2017 {
 		t.Error("rounds")
 	}
 }
@@ -160,10 +169,25 @@ func TestLookDrained(t *testing.T) {
 		t.Error(w.Look(0))
 	}
 	w.Do(Step{Kind: Open, Side: 1, N: 16})
-	net := w.Net()
-	net.L = append(net.L, lossy.Packet{})
-	if len(w.Net().L) != 0 {
+	x := made()
+	x.Do(Step{Kind: Send})
+	x.Net().L[0].To = 7
+	if x.Net().L[0].To != 1 {
 		t.Error("Net shares")
+	}
+	one := made()
+	one.ends[0].GoAway()
+	one.Fair(5, nil)
+	one.ends[1].Ping(1)
+	if one.Drained() || !one.ends[0].Drained() {
+		t.Error("one side alone is drained")
+	}
+	one = made()
+	one.ends[1].GoAway()
+	one.Fair(1, nil)
+	one.ends[0].Ping(1)
+	if one.Drained() || !one.ends[1].Drained() {
+		t.Error("one side alone is drained")
 	}
 }
 
