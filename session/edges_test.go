@@ -53,6 +53,10 @@ func TestMoveHere(t *testing.T) {
 	if n := a.Look().Nodes; n[0].Parent != 3 || n[1].Parent != 0 || n[0].Weight != 1 {
 		t.Error(n)
 	}
+	if e := a.Move(1, api.MaxID, 256, false); e != api.OK || a.Look().Nodes[0].Parent != 0 || a.Look().Nodes[0].Weight != 16 {
+		t.Error(e)
+	}
+	a.Move(1, 3, 1, false)
 	for a.Ping(1) == api.OK {
 	}
 	if e := a.Move(1, 0, 9, false); e != api.ErrFull || a.Look().Nodes[0].Parent != 3 {
@@ -168,14 +172,17 @@ func TestEaten(t *testing.T) {
 		r := against(t, true, tune.First())
 		r.open(2)
 		r.open(4)
-		r.s.Open(0, 16, false)
-		r.s.Write(1, "went")
+		for range 3 {
+			r.s.Open(0, 16, false)
+		}
+		r.s.Write(5, "went")
 		r.flush()
 		r.self(frame.Frame{Kind: frame.Came, Offset: r.s.v.Control.Send.Next})
 		r.data(2, 0, text(32), false)
 		r.data(4, 0, text(30)[:20], false)
-		r.data(1, 0, text(7), false)
-		r.s.Read(4, 5)
+		r.data(5, 0, text(7), false)
+		r.s.Read(4, 3)
+		r.s.Read(5, 2)
 		if in := r.s.v.In; in.Used != 32+20+7 || in.Read != 5 || r.s.v.Out.Used != 4 {
 			t.Fatal(in, r.s.v.Out)
 		}
@@ -183,27 +190,27 @@ func TestEaten(t *testing.T) {
 	}
 	r := begin()
 	r.s.Reset(4, 9)
-	if r.s.v.In.Read != 20 {
+	if r.s.v.In.Read != 20+2 {
 		t.Error(r.s.v.In)
 	}
 	r = begin()
 	r.carry(frame.Frame{Kind: frame.Reset, Stream: 4, N: 25, Code: 9})
-	if r.s.v.In.Read != 25 {
+	if r.s.v.In.Read != 25+2 {
 		t.Error(r.s.v.In)
 	}
 	r = begin()
 	r.carry(frame.Frame{Kind: frame.GoAway})
-	if r.s.v.In.Read != 12 || r.s.v.Out.Used != 0 || r.last() != (Event{Away, 0, 0}) || len(r.s.v.Streams) != 2 || len(r.s.v.IDs.Cut) != 0 {
+	if r.s.v.In.Read != 3+7 || r.s.v.Out.Used != 0 || r.last() != (Event{Away, 0, 0}) || len(r.s.v.Streams) != 2 || len(r.s.v.IDs.Cut) != 0 || r.s.v.Events[2].Kind != Refused {
 		t.Error(r.s.v.In, r.s.v.Out, r.s.v.Events)
 	}
-	// Its number is gone: what comes of it is answered, but cut ones have no answer.
+	// Its number is gone: what comes of it is answered, though it is above the last one that is still taken; cut ones have no answer.
 	r.s.GoAway()
 	r.forget()
-	r.data(1, 0, "late", false)
-	r.self(frame.Frame{Kind: frame.Came, Stream: 1})
+	r.data(5, 0, "late", false)
+	r.self(frame.Frame{Kind: frame.Came, Stream: 5})
 	r.s.Reset(4, 9)
 	r.data(4, 0, "late", false)
-	if len(r.got) != 1 || !frame.Same(r.got[0], frame.Frame{Kind: frame.Came, Flag: true, Stream: 1, Offset: 4}) || r.s.v.Dead {
+	if len(r.got) != 1 || !frame.Same(r.got[0], frame.Frame{Kind: frame.Came, Flag: true, Stream: 5, Offset: 4}) || r.s.v.Dead {
 		t.Error(r.got)
 	}
 }
