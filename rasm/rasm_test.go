@@ -104,9 +104,33 @@ func TestReadWholeEnded(t *testing.T) {
 	if _, s, end := Read(empty, 0); s != "" || !end || !Ended(empty) {
 		t.Error(s, end)
 	}
-	bad := State{recvq.State{Base: 5, Parts: []recvq.Part{{At: 5}}}, 5}
-	if x, s, end := Read(bad, 0); s != "" || end || Whole(bad) || Ended(bad) || !Same(x, bad) {
+	bad := State{recvq.State{Base: 5, Ready: "abc", Parts: []recvq.Part{{At: 5}}}, 5}
+	if x, s, end := Read(bad, 2); s != "" || end || Whole(bad) || Ended(bad) || !Same(x, bad) {
 		t.Error(s, end)
+	}
+}
+
+// P24.3
+func TestReadHangsOnWhatCameAlone(t *testing.T) {
+	for _, end := range []int{0, 2, 4, -2, -7, api.MaxOffset + 1, math.MinInt, math.MaxInt} {
+		st := State{recvq.State{Base: 3, Ready: "abc", Parts: []recvq.Part{{At: 7, Data: "x"}}}, end}
+		if Check(st) != api.ErrRange {
+			t.Error(end, Check(st))
+		}
+		for _, n := range []int{math.MinInt, -1, 0, 1, 2, 3, math.MaxInt} {
+			want, text := recvq.Read(st.Recv, n)
+			if x, s, ended := Read(st, n); s != text || ended || !recvq.Same(x.Recv, want) || x.End != end {
+				t.Error(end, n, x, s, ended)
+			}
+		}
+	}
+	st := State{recvq.State{Base: 1, Ready: "c"}, 0}
+	if x, s, ended := Read(st, 1); s != "c" || ended || !Same(x, State{recvq.State{Base: 1}, 0}) {
+		t.Error(x, s, ended)
+	}
+	// Nothing is ready any more, and the end is wrong: it is not told.
+	if x, s, ended := Read(State{recvq.State{Base: api.MaxOffset + 1}, api.MaxOffset + 1}, 1); s != "" || ended {
+		t.Error(x, s, ended)
 	}
 }
 
