@@ -119,7 +119,38 @@ func TestOnData(t *testing.T) {
 	}
 }
 
-// P29.4, P29.5
+// P29.5
+func TestAcked(t *testing.T) {
+	a, _ := Send(New(), ping)
+	a, _, _, _ = Pick(a, 0, 32)
+	b := New()
+	for i, x := range []struct {
+		at   int
+		s    string
+		want int
+	}{
+		{2, pingBytes[2:], 0},
+		{0, "", 0},
+		{0, pingBytes[:1], 1},
+		{1, pingBytes[1:2], 4},
+		{0, pingBytes, 4},
+		{5, "\x00", 4},
+		{4, "\x06", 6},
+	} {
+		var code api.Code
+		if b, _, code = OnData(b, x.at, x.s); code != api.NoError || Acked(b) != x.want {
+			t.Error(i, Acked(b), code)
+		}
+	}
+	if x, _, code := OnData(b, 6, "\x40\x41"); code != api.FrameSize || Acked(x) != 6 {
+		t.Error("what is refused did not come", Acked(x), code)
+	}
+	if x := OnCame(a, Acked(b)-2); x.Send.Base != 4 || x.Send.Data != "" || Acked(x) != 0 {
+		t.Error("what this side sent did not come here", x)
+	}
+}
+
+// P29.4
 func TestParts(t *testing.T) {
 	st, _ := Send(New(), ping)
 	if !Want(st) {
@@ -136,7 +167,7 @@ func TestParts(t *testing.T) {
 	if _, p, s, _ := Pick(dead, 0, 32); p.To != 3 || s != pingBytes[:3] {
 		t.Error(p, s)
 	}
-	if x := OnCame(st, 2); Acked(x) != 2 || !Same(OnCame(st, 4), st) {
+	if x := OnCame(st, 2); x.Send.Base != 2 || Acked(x) != 0 || !Same(OnCame(st, 4), st) {
 		t.Error(x)
 	}
 	a, p, s, ok := Pick(bad(), 0, 9)
@@ -182,7 +213,7 @@ func TestInOrder(t *testing.T) {
 				net = slices.Delete(net, k, k+1)
 			}
 			if r.Intn(3) == 0 {
-				a = OnCame(a, b.Recv.Recv.Base)
+				a = OnCame(a, Acked(b))
 			}
 			if Check(a) != api.OK || Check(b) != api.OK {
 				t.Fatal(a, b)

@@ -153,5 +153,5 @@ func (s *Session) wanting() []int {
 
 // gated tells whether the other side may not know a stream yet.
 func (s *Session) gated(id int) bool {
-	return slices.ContainsFunc(s.v.Gates, func(g Gate) bool { return g.ID == id && g.At > control.Acked(s.v.Control) })
+	return slices.ContainsFunc(s.v.Gates, func(g Gate) bool { return g.ID == id && g.At > s.v.Control.Send.Base })
 }

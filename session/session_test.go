@@ -683,6 +683,33 @@ func TestSettingsPingAwayWindow(t *testing.T) {
 }
 
 // P30.9
+func TestGateIsOfWhatThisSideSent(t *testing.T) {
+	r := against(t, true, tune.First())
+	r.carry(frame.Frame{Kind: frame.Settings, Pairs: []api.Pair{{ID: 4, Value: 7}}})
+	r.s.Open(0, 16, false)
+	r.s.Write(1, text(9))
+	at := r.s.v.Gates[0].At
+	for range 20 {
+		r.carry(frame.Frame{Kind: frame.Window, N: 1})
+	}
+	if came := r.s.v.Control.Recv.Recv.Base; came <= at {
+		t.Fatal(came, at)
+	}
+	went := func() bool {
+		return slices.ContainsFunc(r.got, func(f frame.Frame) bool { return f.Kind == frame.Data })
+	}
+	if r.flush(); went() {
+		t.Error("much came, but the other side may not know the stream yet")
+	}
+	if r.self(frame.Frame{Kind: frame.Came, Offset: at - 1}); went() {
+		t.Error("all but one byte came there")
+	}
+	if r.self(frame.Frame{Kind: frame.Came, Offset: at}); !went() {
+		t.Error("the other side knows the stream")
+	}
+}
+
+// P30.9
 func TestOut(t *testing.T) {
 	r := against(t, true, tune.First())
 	if r.s.Out(2) != nil || r.s.Out(-1) != nil || r.s.Out(math.MaxInt) != nil {
