@@ -36,6 +36,40 @@ func TestNames(t *testing.T) {
 	}
 }
 
+// P36.1: what one does with the names that were told changes nothing, neither to others nor at the same time.
+func TestNamesAreMadeAnew(t *testing.T) {
+	var w sync.WaitGroup
+	for range 8 {
+		w.Go(func() {
+			l := Names()
+			l[0] = "x"
+			_ = append(l, "y")
+			x := New()
+			if !Known("steps") || !x.Add("steps", 1) || x.Get("steps") != 1 || x.List()[0].Name != "steps" || !New().Join(x) {
+				t.Error("the lists share")
+			}
+		})
+	}
+	w.Wait()
+	if len(Names()) != count || strings.Join(Names(), " ") != all {
+		t.Error(Names())
+	}
+}
+
+// P36.1, P36.3: those are known that are told, and no others.
+func TestKnown(t *testing.T) {
+	for _, name := range Names() {
+		if !Known(name) || !New().Add(name, 1) {
+			t.Error(name)
+		}
+	}
+	for _, name := range []string{"", "Steps", "step", "steps ", "x", all} {
+		if Known(name) || New().Add(name, 1) {
+			t.Error(name)
+		}
+	}
+}
+
 // P36.2
 func TestNote(t *testing.T) {
 	x := New()
